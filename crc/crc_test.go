@@ -4,6 +4,8 @@ import (
 	"bytes"
 	"math/bits"
 	"testing"
+
+	"glowworm/sample"
 )
 
 // addHigh adds b the other way round, the highest bit first, by the polynomial 1021: a second way to the same sums.
@@ -16,24 +18,14 @@ func addHigh(c uint16, b byte) uint16 {
 	return bits.Reverse16(r)
 }
 
-// mixed is n bytes without a plain rule.
-func mixed(n int, seed uint32) []byte {
-	b := make([]byte, n)
-	for i := range b {
-		seed = seed*1664525 + 1013904223
-		b[i] = byte(seed >> 24)
-	}
-	return b
-}
-
 // inputs are nil and empty lists, short ones, ordinary ones, and one longer than 16 bits count.
 func inputs() [][]byte {
-	ins := [][]byte{nil, {}, []byte("123456789"), []byte("glowworm"), bytes.Repeat([]byte{0}, 40), bytes.Repeat([]byte{0xff}, 40), mixed(70000, 7)}
+	ins := [][]byte{nil, {}, []byte("123456789"), []byte("glowworm"), bytes.Repeat([]byte{0}, 40), bytes.Repeat([]byte{0xff}, 40), sample.Mixed(70000, 7)}
 	for x := range 256 {
 		ins = append(ins, []byte{byte(x)}, []byte{byte(x), byte(255 - x)})
 	}
 	for n := range 90 {
-		ins = append(ins, mixed(n, uint32(n)))
+		ins = append(ins, sample.Mixed(n, uint32(n)))
 	}
 	return ins
 }
@@ -137,7 +129,7 @@ func TestFineOfJustOneSum(t *testing.T) {
 }
 
 func TestFineFindsTurnedBits(t *testing.T) {
-	b := Put(mixed(30, 3))
+	b := Put(sample.Mixed(30, 3))
 	for i := range b {
 		for bit := range 8 {
 			c := bytes.Clone(b)
@@ -186,9 +178,9 @@ func TestPutAnswersNewMemory(t *testing.T) {
 
 func TestSameArgumentsSameAnswers(t *testing.T) {
 	first := Of([]byte("glowworm"))
-	Of(mixed(50, 1))
-	Put(mixed(51, 2))
-	Fine(mixed(52, 3))
+	Of(sample.Mixed(50, 1))
+	Put(sample.Mixed(51, 2))
+	Fine(sample.Mixed(52, 3))
 	if Of([]byte("glowworm")) != first {
 		t.Error("P0.5: Of hangs on what was asked ahead of it")
 	}

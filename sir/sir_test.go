@@ -7,6 +7,7 @@ import (
 	"testing"
 
 	"glowworm/crc"
+	"glowworm/sample"
 )
 
 // escaped is Escape by a second way: the marks first, or they would be marked again.
@@ -23,20 +24,10 @@ func wrapped(b []byte, extra int) []byte {
 	return []byte(strings.Repeat("\xff", extra) + "\xc0" + string(escaped(whole)) + "\xc1")
 }
 
-// mixed is n bytes without a plain rule.
-func mixed(n int, seed uint32) []byte {
-	b := make([]byte, n)
-	for i := range b {
-		seed = seed*1664525 + 1013904223
-		b[i] = byte(seed >> 24)
-	}
-	return b
-}
-
 // inputs are nil and empty lists, each byte, each pair of bytes near a special one, ordinary lists, and a long one.
 func inputs() [][]byte {
 	ins := [][]byte{
-		nil, {}, []byte("123456789"), []byte("glowworm"), mixed(70000, 7),
+		nil, {}, []byte("123456789"), []byte("glowworm"), sample.Mixed(70000, 7),
 		bytes.Repeat([]byte{0xc0}, 40), bytes.Repeat([]byte{0xc1}, 40), bytes.Repeat([]byte{0x7d}, 40), bytes.Repeat([]byte{0xff}, 40),
 	}
 	for x := range 256 {
@@ -49,7 +40,7 @@ func inputs() [][]byte {
 		}
 	}
 	for n := range 90 {
-		ins = append(ins, mixed(n, uint32(n)))
+		ins = append(ins, sample.Mixed(n, uint32(n)))
 	}
 	return ins
 }
@@ -256,9 +247,9 @@ func TestAnswersAreNewMemory(t *testing.T) {
 func TestSameArgumentsSameAnswers(t *testing.T) {
 	for name, call := range calls() {
 		first := string(call([]byte("\xc0glowworm")))
-		Wrap(mixed(50, 1), 7)
-		Escape(mixed(51, 2))
-		Abort(mixed(52, 3))
+		Wrap(sample.Mixed(50, 1), 7)
+		Escape(sample.Mixed(51, 2))
+		Abort(sample.Mixed(52, 3))
 		if string(call([]byte("\xc0glowworm"))) != first {
 			t.Errorf("P0.5: %s hangs on what was asked ahead of it", name)
 		}
