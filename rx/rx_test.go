@@ -288,21 +288,10 @@ func TestTooLongIsGivenUpAtOnce(t *testing.T) {
 
 func TestAllShortLists(t *testing.T) {
 	// FF 00 FF is a fine frame of one byte, and 7D DF another FF.
-	some := "\xc0\xc1\x7d\x00\xff\xdf"
-	for n := range 6 {
-		b := make([]byte, n)
-		total := 1
-		for range n {
-			total *= len(some)
-		}
-		for v := range total {
-			for i, rest := 0, v; i < n; i, rest = i+1, rest/len(some) {
-				b[i] = some[rest%len(some)]
-			}
-			check(t, 1, string(b))
-			check(t, 1, "\xc0\xff"+string(b))
-			check(t, 2, "\xc0\xff\x00"+string(b)+"\xc1")
-		}
+	for b := range sample.Each("\xc0\xc1\x7d\x00\xff\xdf", 5) {
+		check(t, 1, b)
+		check(t, 1, "\xc0\xff"+b)
+		check(t, 2, "\xc0\xff\x00"+b+"\xc1")
 	}
 }
 

@@ -1,6 +1,8 @@
 // Package sample makes lists that the project's tests put in.
 package sample
 
+import "iter"
+
 // Mixed is n bytes without a plain rule; another seed gives others.
 func Mixed(n int, seed uint32) []byte {
 	var b []byte
@@ -10,4 +12,22 @@ func Mixed(n int, seed uint32) []byte {
 		b = append(b, byte(seed>>24))
 	}
 	return b
+}
+
+// Each is every text of at most most bytes, each of them one of those of some.
+func Each(some string, most int) iter.Seq[string] {
+	return func(yield func(string) bool) { behind("", some, most, yield) }
+}
+
+// behind tells s and what begins with it; false: no more is wanted.
+func behind(s, some string, most int, yield func(string) bool) bool {
+	if !yield(s) {
+		return false
+	}
+	for i := range len(some) {
+		if len(s) < most && !behind(s+some[i:i+1], some, most, yield) {
+			return false
+		}
+	}
+	return true
 }
