@@ -2,7 +2,6 @@ package out
 
 import (
 	"fmt"
-	"math"
 	"slices"
 	"strings"
 	"testing"
@@ -11,12 +10,6 @@ import (
 	"glowworm/api"
 	"glowworm/sample"
 )
-
-// wrong are numbers that no frame has.
-var wrong = []int{
-	math.MinInt, math.MinInt + 1, -1 << 32, -1<<32 + 1, -257, -256, -16, -9, -8, -7, -2, -1,
-	8, 9, 10, 15, 16, 255, 256, 257, 1<<32 - 1, 1 << 32, 1<<32 + 1, math.MaxInt - 7, math.MaxInt - 1, math.MaxInt,
-}
 
 // second is Out in a second way: it keeps all there ever was, and counts without end.
 type second struct {
@@ -150,7 +143,7 @@ func TestNew(t *testing.T) {
 			t.Errorf("P13.1: New(%d): %+v", win, o)
 		}
 	}
-	for _, win := range wrong {
+	for _, win := range sample.Wrong() {
 		want := 7
 		if win < 1 {
 			want = 1
@@ -253,7 +246,7 @@ func TestAckOfWrongNumbers(t *testing.T) {
 		for held := range 9 {
 			p := at(t, 7, first, held)
 			for range 2 {
-				for _, nr := range wrong {
+				for _, nr := range sample.Wrong() {
 					checkNoAck(t, p.o, nr)
 				}
 				p.burst(t)
@@ -391,7 +384,7 @@ func TestOfTwoNeitherTouchesTheOther(t *testing.T) {
 
 func TestNil(t *testing.T) {
 	var o *Out
-	for _, nr := range append([]int{0, 1, 7}, wrong...) {
+	for _, nr := range append([]int{0, 1, 7}, sample.Wrong()...) {
 		checkNoAck(t, o, nr)
 	}
 	if err := o.Put("a"); err != api.ErrDown {

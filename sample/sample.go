@@ -1,7 +1,10 @@
 // Package sample makes lists that the project's tests put in.
 package sample
 
-import "iter"
+import (
+	"iter"
+	"math"
+)
 
 // Mixed is n bytes without a plain rule; another seed gives others.
 func Mixed(n int, seed uint32) []byte {
@@ -30,4 +33,12 @@ func behind(s, some string, most int, yield func(string) bool) bool {
 		}
 	}
 	return true
+}
+
+// Wrong is numbers that no frame has: some beside 0 to 7, and some that would be one of these if they were cut to fewer bits.
+func Wrong() []int {
+	return []int{
+		math.MinInt, math.MinInt + 1, -1 << 32, -1<<32 + 1, -257, -256, -16, -9, -8, -7, -2, -1,
+		8, 9, 10, 15, 16, 255, 256, 257, 1<<32 - 1, 1 << 32, 1<<32 + 1, math.MaxInt - 7, math.MaxInt - 1, math.MaxInt,
+	}
 }

@@ -44,3 +44,20 @@ func TestEachEndsWhenNoMoreIsWanted(t *testing.T) {
 		t.Errorf("Each: %d", n)
 	}
 }
+
+func TestWrong(t *testing.T) {
+	low, high := 0, 0
+	for _, n := range Wrong() {
+		switch {
+		case n < 0:
+			low++
+		case n > 7:
+			high++
+		default:
+			t.Errorf("Wrong: %d", n)
+		}
+	}
+	if low == 0 || high == 0 {
+		t.Errorf("Wrong: %d below 0, %d above 7", low, high)
+	}
+}
