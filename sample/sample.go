@@ -4,6 +4,7 @@ package sample
 import (
 	"iter"
 	"math"
+	"strings"
 )
 
 // Mixed is n bytes without a plain rule; another seed gives others.
@@ -40,5 +41,18 @@ func Wrong() []int {
 	return []int{
 		math.MinInt, math.MinInt + 1, -1 << 32, -1<<32 + 1, -257, -256, -16, -9, -8, -7, -2, -1,
 		8, 9, 10, 15, 16, 255, 256, 257, 1<<32 - 1, 1 << 32, 1<<32 + 1, math.MaxInt - 7, math.MaxInt - 1, math.MaxInt,
+	}
+}
+
+// Names is names that a device may have.
+func Names() []string {
+	return []string{"", "n", " ", "J\u00f6rg", "\u4e16\u754c", "\U0001F600", strings.Repeat("n", 20), strings.Repeat("\u00e4", 10)}
+}
+
+// Poor is names that none has.
+func Poor() []string {
+	return []string{
+		strings.Repeat("n", 21), strings.Repeat("\u00e4", 11), strings.Repeat("n", 300), "\x00", "a\x1f", "\x7f",
+		"\u0080", "\ufffd", "\xff", "a\xc3", "\xc3b", "\xed\xa0\x80",
 	}
 }

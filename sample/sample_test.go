@@ -4,6 +4,8 @@ import (
 	"bytes"
 	"slices"
 	"testing"
+
+	"glowworm/nick"
 )
 
 func TestMixed(t *testing.T) {
@@ -59,5 +61,18 @@ func TestWrong(t *testing.T) {
 	}
 	if low == 0 || high == 0 {
 		t.Errorf("Wrong: %d below 0, %d above 7", low, high)
+	}
+}
+
+func TestNames(t *testing.T) {
+	for _, s := range Names() {
+		if !nick.May(s) {
+			t.Errorf("Names: %q", s)
+		}
+	}
+	for _, s := range Poor() {
+		if nick.May(s) {
+			t.Errorf("Poor: %q", s)
+		}
 	}
 }

@@ -17,14 +17,8 @@ import (
 // ids are such as a device may have, then the two that none has.
 var ids = []uint32{1, 2, 0xFF, 0x100, 0x01020304, 0x7FFFFFFF, 0x80000000, 0xFF000000, 0x00FFFFFF, 0xFFFFFFFE, 0, 0xFFFFFFFF}
 
-// fine are names that a device may have.
-var fine = []string{"", "n", " ", "J\u00f6rg", "\u4e16\u754c", "\U0001F600", strings.Repeat("n", 20), strings.Repeat("\u00e4", 10)}
-
-// poor are names that none has.
-var poor = []string{
-	strings.Repeat("n", 21), strings.Repeat("\u00e4", 11), strings.Repeat("n", 300), "\x00", "a\x1f", "\x7f",
-	"\u0080", "\ufffd", "\xff", "a\xc3", "\xc3b", "\xed\xa0\x80",
-}
+// fine and poor are names that a device may have, and such that none has.
+var fine, poor = sample.Names(), sample.Poor()
 
 // far are numbers at the ends of int, and some that would be small if they were cut to fewer bits.
 var far = []int{math.MinInt, math.MinInt + 6, -1 << 32, -1<<32 + 1, 1<<32 - 1, 1 << 32, 1<<32 + 1, 1<<32 + 6, 1<<16 + 6, math.MaxInt}
